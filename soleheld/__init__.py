@@ -1,0 +1,1 @@
+"""Soleheld: an election count that holds whoever lies."""
