@@ -245,10 +245,10 @@ def joined_names(words):
 
 def ballot_words(text):
     """The words of a ballot text between single spaces."""
-    if not isinstance(text, str) or text == "" or len(text) > LONGEST_TEXT or "\n" in text:
+    if not isinstance(text, str) or len(text) > LONGEST_TEXT or "\n" in text:
         raise Spoiled(text, "signs")
     words = text.split(" ")
-    # A space at an end, or two together, leave an empty word.
+    # A space at an end, two together, or no text at all leave an empty word.
     if "" in words:
         raise Spoiled(text, "signs")
     return words
