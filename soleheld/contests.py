@@ -1,6 +1,6 @@
 """Contests: candidates, a lot that breaks ties, and a rule."""
 
-from soleheld.errors import InvalidLot, InvalidNames, InvalidRoll, TooMany
+from soleheld.errors import InvalidLot, InvalidNames, InvalidRoll, Spoiled, TooMany
 from soleheld.words import is_integer, is_name
 
 LEAST_NAMES = 2
@@ -80,3 +80,11 @@ def check_lot(names, lot):
         raise InvalidLot()
     if any([name not in lot for name in names]):
         raise InvalidLot()
+
+
+def marking_of(contest, text):
+    """The marking with a text, None for any value that is spoiled."""
+    try:
+        return contest.read(text)
+    except Spoiled:
+        return None

@@ -40,6 +40,18 @@ class Counting:
         self.weighs = 0
         self.end = "open"
 
+    def twin(self):
+        """An independent counting in the same state."""
+        other = Counting(self.contest, self.votes, [pile.twin() for pile in self.piles])
+        other.walk = self.walk.twin()
+        other.rows = {name: list(worths) for name, worths in self.rows.items()}
+        other.nums = dict(self.nums)
+        other.seats = list(self.seats)
+        other.history = list(self.history)
+        other.weighs = self.weighs
+        other.end = self.end
+        return other
+
     def next_ask(self):
         """Does all that comes ahead of the next ask. That ask, or None if the count has come to its end."""
         while self.end == "open":

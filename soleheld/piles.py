@@ -14,6 +14,22 @@ class Pile:
         self.label = FIRST_LABEL
         self.weight = ONE
 
+    def twin(self):
+        """An independent pile in the same state."""
+        return self.part(self.label, self.numbers, self.size)
+
+    def part(self, label, numbers, size):
+        """A pile of some of its ballots, which keep their weight."""
+        other = Pile(numbers, size)
+        other.label = label
+        other.weight = self.weight
+        return other
+
+
+def least_number(pile):
+    """The least number of a marking in a pile."""
+    return pile.numbers[0]
+
 
 def total_weight(piles):
     """The sum of the weights of all ballots in piles."""

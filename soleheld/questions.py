@@ -36,3 +36,15 @@ class Question:
 def sizes_in(subs, numbers):
     """The row of a part: how many of the numbers stand in each sub-block."""
     return tuple([len([number for number in numbers if number in sub]) for sub in subs])
+
+
+def has_rows(parts, value):
+    """Whether any value has a row for each of these parts, with as many items as the part has sub-blocks."""
+    if not isinstance(value, (list, tuple)) or len(value) != len(parts):
+        return False
+    return all([is_row(row, len(subs)) for row, (_, _, subs) in zip(value, parts)])
+
+
+def is_row(value, many):
+    """Whether any value is a list or tuple of so many items."""
+    return isinstance(value, (list, tuple)) and len(value) == many

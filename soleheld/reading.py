@@ -16,8 +16,8 @@ MOST_BLOCKS = 8
 class Block:
     """An if, each or times whose end has not come yet, or the whole of the statements."""
 
-    def __init__(self, head):
-        self.head = head
+    def __init__(self, start):
+        self.start = start
         self.statements = []
         self.others = []
         self.has_else = False
@@ -31,9 +31,9 @@ class Block:
 
     def whole(self):
         """The whole statement."""
-        if self.head[0] == "if":
-            return (*self.head, tuple(self.statements), tuple(self.others))
-        return (*self.head, tuple(self.statements))
+        if self.start[0] == "if":
+            return (*self.start, tuple(self.statements), tuple(self.others))
+        return (*self.start, tuple(self.statements))
 
 
 class Reading:
@@ -96,14 +96,14 @@ class Reading:
         head = read_statement(line)
         self.check_place(head, line)
         self.check_names(head, line)
-        if head == ("leave",) and not any([block.head[0] == "times" for block in self.opened]):
+        if head == ("leave",) and not any([block.start[0] == "times" for block in self.opened]):
             raise BadRule(line.number, "leave")
         self.put(head)
 
     def check_place(self, head, line):
         """Refuses an else or end at which nothing fits is open, and a block within too many."""
         innermost = self.opened[-1]
-        if head == ("else",) and (innermost.head[0] != "if" or innermost.has_else):
+        if head == ("else",) and (innermost.start[0] != "if" or innermost.has_else):
             raise BadRule(line.number, "form")
         if head == ("end",) and not self.is_open():
             raise BadRule(line.number, "form")
@@ -112,7 +112,7 @@ class Reading:
 
     def check_names(self, head, line):
         """Refuses an each with a name that is taken, and names that mean nothing here."""
-        eaches = [block.head[1] for block in self.opened if block.head[0] == "each"]
+        eaches = [block.start[1] for block in self.opened if block.start[0] == "each"]
         taken = [*self.rows, *self.nums, *eaches]
         if head[0] == "each" and head[1] in taken:
             raise BadRule(line.number, "double")

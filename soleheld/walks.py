@@ -24,6 +24,13 @@ class Frame:
         self.at += 1
         return self.statements[self.at - 1]
 
+    def twin(self):
+        """An independent frame in the same state."""
+        other = Frame(self.word, self.name, self.statements, self.rounds)
+        other.rounds_done = self.rounds_done
+        other.at = self.at
+        return other
+
 
 class Walk:
     """Tells statement by statement what comes next. The frames that are open stand from the outermost one on."""
@@ -62,3 +69,9 @@ class Walk:
     def candidate_of(self, name):
         """The number of the candidate for which the each with a name is being done."""
         return [frame.rounds_done for frame in self.frames if frame.name == name][-1]
+
+    def twin(self):
+        """An independent walk in the same state."""
+        other = Walk((), self.many)
+        other.frames = [frame.twin() for frame in self.frames]
+        return other

@@ -1,7 +1,9 @@
-"""What several tests need: texts of rules, among them those of [35] of the document."""
+"""What several tests need: texts of rules, among them those of [35] of the document, and bundles of ballots."""
 
+from soleheld.books import slip_of
 from soleheld.contests import Contest
 from soleheld.rules import read_rule
+from soleheld.seals import WholeSeal
 
 HEAD = ("rule test", "form ranks", "seats 1", "row score free", "num n x", "begin")
 FREE = "each a; let free[a] be 1; end"
@@ -73,3 +75,23 @@ def contest_of(text, names=("ann", "bo", "cy"), lot=None):
 def roll_of(contest, *texts):
     """The roll of ballot texts."""
     return [contest.read(text) for text in texts]
+
+
+def hands_of(contest, *bundles):
+    """The papers of bundles of ballot texts; each bundle is of another place, and the salts ascend."""
+    return [[(f"place{'abcdefghijkl'[at]}", number, 100 * at + number, contest.read(text))
+             for number, text in enumerate(texts)] for at, texts in enumerate(bundles)]
+
+
+def bundles_of(contest, hands, seal=WholeSeal()):
+    """The slips of these papers."""
+    return [tuple(slip_of(contest, paper, seal) for paper in papers) for papers in hands]
+
+
+def caught(kind, call, *values, **more):
+    """The error of a kind that a call raises, as the tuple of its attributes; None if it raises none."""
+    try:
+        call(*values, **more)
+    except kind as error:
+        return tuple(value for name, value in vars(error).items() if name != "code")
+    return None

@@ -10,7 +10,8 @@ import soleheld
 FOLDER = pathlib.Path(soleheld.__file__).parent
 FILES = sorted(path for path in FOLDER.iterdir() if path.name != "__pycache__")
 TREES = {path.name: ast.parse(path.read_text(encoding="utf-8")) for path in FILES}
-LIBRARY = {"math": {"gcd", "lcm", "isqrt", "comb", "perm", "factorial"}}
+LIBRARY = {"math": {"gcd", "lcm", "isqrt", "comb", "perm", "factorial"},
+           "itertools": {"product", "combinations", "permutations"}}
 BUILTINS = set("""len range enumerate zip min max sum abs sorted reversed int str bool bytes list tuple dict set frozenset
 isinstance ord repr any all divmod pow Exception ValueError TypeError KeyError IndexError LookupError ZeroDivisionError
 ArithmeticError OverflowError RuntimeError NotImplementedError NotImplemented StopIteration""".split())
@@ -106,9 +107,37 @@ class Words(unittest.TestCase):
 
     def test_no_builtin_but_those_allowed(self):
         for name, node in nodes(ast.Name):
-            if hasattr(builtins, node.id):
+            if hasattr(builtins, node.id) and node.id != "property":
                 self.assertIn(node.id, BUILTINS, name)
                 self.assertIsInstance(node.ctx, ast.Load, name)
+
+    def test_decorators(self):
+        for name, node in nodes((ast.FunctionDef, ast.ClassDef)):
+            for decorator in node.decorator_list:
+                self.assertIsInstance(node, ast.FunctionDef, name)
+                self.assertEqual(ast.unparse(decorator), "property", name)
+
+    def test_methods_properties_and_attributes_have_names_of_their_own(self):
+        stored = {node.attr for _, node in nodes(ast.Attribute) if isinstance(node.ctx, ast.Store)}
+        methods = [item for _, node in nodes(ast.ClassDef) for item in node.body if isinstance(item, ast.FunctionDef)]
+        properties = {item.name for item in methods if item.decorator_list}
+        plain = {item.name for item in methods if not item.decorator_list}
+        self.assertEqual(stored & (properties | plain), set())
+        self.assertEqual(properties & plain, set())
+
+    def test_generators_have_names_of_their_own(self):
+        functions = [node for _, node in nodes(ast.FunctionDef)]
+        for function in functions:
+            if any(isinstance(node, (ast.Yield, ast.YieldFrom)) for node in ast.walk(function)):
+                self.assertEqual([node.name for node in functions].count(function.name), 1, function.name)
+
+    def test_no_name_stands_for_a_class_or_an_import_too(self):
+        for name, tree in TREES.items():
+            above = {node.name for node in tree.body if isinstance(node, ast.ClassDef)}
+            above |= {alias.name for node in tree.body if isinstance(node, ast.ImportFrom) for alias in node.names}
+            below = {node.arg for node in ast.walk(tree) if isinstance(node, ast.arg)}
+            below |= {node.id for node in ast.walk(tree) if isinstance(node, ast.Name) and isinstance(node.ctx, ast.Store)}
+            self.assertEqual(above & below, set(), name)
 
     def test_names(self):
         for name, node in nodes((ast.FunctionDef, ast.ClassDef)):
