@@ -2,11 +2,9 @@
 
 from soleheld.contests import MOST_BALLOTS
 from soleheld.copies import frozen
-from soleheld.counting import Counting
 from soleheld.counts import Count
 from soleheld.errors import BadSizes, Ended, InvalidNumber
-from soleheld.leading import Leading
-from soleheld.piles import Pile
+from soleheld.leading import begun
 from soleheld.questions import has_rows, sizes_in
 from soleheld.words import is_integer, is_number
 
@@ -20,9 +18,7 @@ class Course:
         self.contest = contest
         self.votes = votes
         self._answers = []
-        whole = Pile(tuple(range(len(contest.markings()))), votes)
-        self._leading = Leading(Counting(contest, votes, [whole]))
-        self._leading.go_on()
+        self._leading = begun(contest, votes)
 
     @property
     def question(self):

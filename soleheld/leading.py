@@ -1,7 +1,8 @@
 """A count that is led by sizes: how it goes on from one question to the next."""
 
+from soleheld.counting import Counting
 from soleheld.counts import label_of
-from soleheld.piles import least_number
+from soleheld.piles import Pile, least_number
 from soleheld.questions import Question, split_block
 
 
@@ -60,6 +61,18 @@ class Leading:
         other.asked = self.asked
         other.splits = self.splits
         return other
+
+
+def whole_pile(contest, size):
+    """The block at the beginning of a course: all markings, with so many ballots."""
+    return Pile(tuple(range(len(contest.markings()))), size)
+
+
+def begun(contest, votes):
+    """The leading of a course of so many votes, at its first question or its end."""
+    leading = Leading(Counting(contest, votes, [whole_pile(contest, votes)]))
+    leading.go_on()
+    return leading
 
 
 def splits_of(counting, ask):

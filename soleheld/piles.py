@@ -14,15 +14,17 @@ class Pile:
         self.label = FIRST_LABEL
         self.weight = ONE
 
-    def twin(self):
-        """An independent pile in the same state."""
-        return self.part(self.label, self.numbers, self.size)
-
     def part(self, label, numbers, size):
         """A pile of some of its ballots, which keep their weight."""
         other = Pile(numbers, size)
         other.label = label
         other.weight = self.weight
+        return other
+
+    def with_weight(self, weight):
+        """A pile of its ballots with another weight."""
+        other = self.part(self.label, self.numbers, self.size)
+        other.weight = weight
         return other
 
 
@@ -35,7 +37,8 @@ def total_weight(piles):
     """The sum of the weights of all ballots in piles."""
     total = ZERO
     for pile in piles:
-        total = plus(total, product(pile.weight, worth(pile.size)))
+        if pile.size > 0:
+            total = plus(total, product(pile.weight, worth(pile.size)))
     return total
 
 
@@ -43,5 +46,6 @@ def total_label(piles):
     """The sum of weight times label of all ballots in piles."""
     total = ZERO
     for pile in piles:
-        total = plus(total, product(pile.weight, worth(pile.size * pile.label)))
+        if pile.size > 0:
+            total = plus(total, product(pile.weight, worth(pile.size * pile.label)))
     return total

@@ -47,7 +47,7 @@ class Plain:
             raise Stop("digits")
         return value
 
-    def index(self, value):
+    def at(self, value):
         return int(value) if value.denominator == 1 and 0 <= value < self.many else None
 
     def value(self, expression):
@@ -58,7 +58,7 @@ class Plain:
             return self.nums[parts[0]]
         values = [self.value(part) for part in parts if isinstance(part, tuple)]
         if word in ("at", "lot"):
-            at = self.index(values[0])
+            at = self.at(values[0])
             if at is None:
                 return Fraction(0)
             return Fraction(self.contest.lot.index(self.contest.names[at])) if word == "lot" else self.rows[parts[0]][at]
@@ -79,16 +79,19 @@ class Plain:
         self.nums[name] = self.value(expression)
 
     def do_set(self, row, index, expression):
-        at, value = self.index(self.value(index)), self.value(expression)
+        at, value = self.at(self.value(index)), self.value(expression)
         if at is not None:
             self.rows[row][at] = value
 
     def do_if(self, test, statements, others):
         self.do_all(statements if self.value(test) else others)
 
+    def number(self, value):
+        return Fraction(value)
+
     def do_each(self, name, statements):
         for a in range(self.many):
-            self.nums[name] = Fraction(a)
+            self.nums[name] = self.number(a)
             self.do_all(statements)
         del self.nums[name]
 
@@ -107,14 +110,14 @@ class Plain:
         limit = None if where is None else self.value(where)
         for ballot, marking in enumerate(self.roll):
             if limit is None or self.labels[ballot] == limit:
-                self.labels[ballot] = self.label(sorting, values, marking)
+                self.labels[ballot] = self.label(sorting, values, self.rows.get(sorting[1]), marking)
 
-    def label(self, sorting, values, marking):
+    def label(self, sorting, values, stands, marking):
         if sorting[0] == "top":
-            standing = [a for a in range(self.many) if marking[a] and self.rows[sorting[1]][a]]
+            standing = [a for a in range(self.many) if marking[a] and stands[a]]
             places = {a: self.contest.lot.index(self.contest.names[a]) for a in standing}
             return min(standing, key=lambda a: (-marking[a], places[a])) if standing else -1
-        marks = [0 if self.index(value) is None else marking[self.index(value)] for value in values]
+        marks = [0 if self.at(value) is None else marking[self.at(value)] for value in values]
         if sorting[0] == "mark":
             return marks[0]
         if sorting[0] == "from":
@@ -147,7 +150,7 @@ class Plain:
                 self.weights[ballot] *= min(max(factor, Fraction(0)), Fraction(1))
 
     def do_seat(self, expression):
-        at = self.index(self.value(expression))
+        at = self.at(self.value(expression))
         if at is not None and len(self.seats) < self.contest.rule.seats:
             self.seats.append(at)
             self.history.append(("seat", at))
