@@ -2,7 +2,7 @@
 
 from math import gcd
 
-from soleheld.words import is_figures
+from soleheld.words import is_figures, is_integer
 
 LIMIT = (10 ** 50) ** 4
 LIMIT_FIGURES = 200
@@ -18,6 +18,13 @@ def worth(top, bottom=1):
     if bottom < 0:
         common = -common
     return (top // common, bottom // common)
+
+
+def is_worth(value):
+    """Whether any value is a worth."""
+    if not isinstance(value, tuple) or len(value) != 2 or not all([is_integer(number) for number in value]):
+        return False
+    return value[1] >= 1 and worth(value[0], value[1]) == value
 
 
 def plus(a, b):
@@ -69,14 +76,15 @@ def number_text(number):
         pieces.append(str(rest % LIMIT).zfill(LIMIT_FIGURES))
         rest = rest // LIMIT
     sign = "-" if number < 0 else ""
-    return sign + str(rest) + "".join(pieces[::-1])
+    figures = "".join(pieces[::-1])
+    return f"{sign}{rest}{figures}"
 
 
 def worth_text(a):
     """The text of a worth."""
     if a[1] == 1:
         return number_text(a[0])
-    return number_text(a[0]) + "/" + number_text(a[1])
+    return f"{number_text(a[0])}/{number_text(a[1])}"
 
 
 def is_short_number(text):
